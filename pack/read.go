@@ -39,12 +39,7 @@ func GetList[T any](r *Reader, get func(r *Reader) T) (l []T) {
 			l = nil
 		}
 	}()
-	many := r.Number()
-	if many > api.MaxMany {
-		r.fail()
-		return nil
-	}
-	for range many {
+	for range next(r, firstCount) {
 		x := get(r)
 		if r.Failed() {
 			return nil
@@ -118,6 +113,15 @@ func firstNumber(b []byte) (uint64, int) {
 	return 0, 0
 }
 
+// firstUpTo is firstNumber, of numbers that are not above a limit. A greater one is none: what may not be is not read, so that its bytes are left.
+func firstUpTo(b []byte, limit uint64) (uint64, int) {
+	n, size := firstNumber(b)
+	if n > limit {
+		return 0, 0
+	}
+	return n, size
+}
+
 func firstFlag(b []byte) (bool, int) {
 	if len(b) == 0 || b[0] > 1 {
 		return false, 0
@@ -126,10 +130,13 @@ func firstFlag(b []byte) (bool, int) {
 }
 
 func firstText(b []byte) (string, int) {
-	length, size := firstNumber(b)
-	if size == 0 || length > api.MaxText || int(length) > len(b)-size {
+	length, size := firstUpTo(b, api.MaxText)
+	if size == 0 || int(length) > len(b)-size {
 		return "", 0
 	}
 	end := size + int(length)
 	return string(b[size:end]), end
 }
+
+// firstCount is how many things a list has.
+func firstCount(b []byte) (uint64, int) { return firstUpTo(b, api.MaxMany) }

@@ -165,16 +165,88 @@ func TestReadListOfNothing(t *testing.T) {
 		mustBeRead(t, c.want, r)
 	}
 	calls = 0
-	for _, code := range []string{"\x81\x20", "\xFF\xFF\xFF\xFF\xFF\xFF\xFF\xFF\xFF\x01"} {
+	for _, code := range tooMany() {
 		r := Read([]byte(code))
 		if got := GetList(r, count); len(got) != 0 || calls != 0 {
-			t.Error("too many", len(got), calls)
+			t.Errorf("%X: %d things, %d calls", code, len(got), calls)
 		}
-		mustStay(t, "too many", r, 0)
+		mustStay(t, code, r, len(code))
 	}
-	r := Read([]byte("\x81\x20abc"))
-	GetList(r, count)
-	mustStay(t, "too many, and more", r, 3)
+}
+
+// tooMany are beginnings of lists that say more than 4096 things.
+func tooMany() []string {
+	return []string{
+		"\x81\x20", "\x80\x21", "\xFF\x7F", "\x80\x80\x01", "\xFF\xFF\xFF\xFF\x0F",
+		"\xFF\xFF\xFF\xFF\xFF\xFF\xFF\xFF\x7F", "\x80\x80\x80\x80\x80\x80\x80\x80\x80\x01", "\xFF\xFF\xFF\xFF\xFF\xFF\xFF\xFF\xFF\x01",
+	}
+}
+
+// TestACountThatFailsIsLeft: where a list says too many things, the number that says it is left, and all behind it.
+func TestACountThatFailsIsLeft(t *testing.T) {
+	ints := func(r *Reader) []int { return GetList(r, (*Reader).Int) }
+	for _, code := range tooMany() {
+		for _, behind := range []string{"", "\x00", "\x05\x06\x07", strings.Repeat("\x00", 5000)} {
+			for name, c := range map[string]struct {
+				ahead string
+				get   func(r *Reader) bool // tells whether nothing of the list is told
+			}{
+				"first":    {"", func(r *Reader) bool { return len(ints(r)) == 0 }},
+				"a number": {"\x00", func(r *Reader) bool { return r.Number() == 0 && !r.Failed() && len(ints(r)) == 0 }},
+				"a text":   {"\x02ab", func(r *Reader) bool { return r.Text() == "ab" && !r.Failed() && len(ints(r)) == 0 }},
+				"a list":   {"\x01\x02", func(r *Reader) bool { return slices.Equal(ints(r), []int{1}) && !r.Failed() && len(ints(r)) == 0 }},
+				"within":   {"\x02\x01\x02", func(r *Reader) bool { return len(GetList(r, ints)) == 0 }},
+			} {
+				r := Read([]byte(c.ahead + code + behind))
+				if !c.get(r) {
+					t.Errorf("%s, %X: something is told", name, code)
+				}
+				mustStay(t, name+" "+code, r, len(code)+len(behind))
+			}
+		}
+	}
+}
+
+// TestWhatFailsIsLeft: one that fails reads nothing of what it fails at, whatever the bytes are.
+func TestWhatFailsIsLeft(t *testing.T) {
+	r := rand.New(rand.NewSource(3))
+	failed := 0
+	for range 100000 {
+		b := make([]byte, r.Intn(12))
+		for i := range b {
+			b[i] = byte(r.Intn(4)) | byte(r.Intn(2)<<7) | byte(r.Intn(2)<<5)
+		}
+		in, left := Read(b), len(b)
+		for range 4 {
+			if left = in.Left(); !readOne(in, r.Intn(5)) {
+				break
+			}
+		}
+		if in.Failed() {
+			failed++
+			mustStay(t, b, in, left)
+		}
+	}
+	if failed < 50000 {
+		t.Error("too few failed", failed)
+	}
+}
+
+// readOne reads a thing, and tells whether that went well: op 0 to 3 a number, an int, a flag, a text; else a list of things without bytes, which can fail at its count alone.
+func readOne(r *Reader, op int) bool {
+	switch op {
+	case 0:
+		r.Number()
+	case 1:
+		r.Int()
+	case 2:
+		r.Flag()
+	case 3:
+		r.Text()
+	default:
+		GetList(r, func(r *Reader) int { return 1 })
+	}
+	return !r.Failed()
 }
 
 func TestReadListThatFails(t *testing.T) {
